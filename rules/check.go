@@ -38,7 +38,7 @@ func findArity(list []Rule) int {
 // isUnsafe tells whether the head has a variable that the body does not bind.
 func isUnsafe(rule Rule) bool {
 	return slices.ContainsFunc(rule.Head.Args, func(term Term) bool {
-		return term.Variable && !slices.ContainsFunc(rule.Body, func(atom Atom) bool {
+		return term.IsVariable() && !slices.ContainsFunc(rule.Body, func(atom Atom) bool {
 			return slices.Contains(atom.Args, term)
 		})
 	})
@@ -46,13 +46,9 @@ func isUnsafe(rule Rule) bool {
 
 // findManyNames tells the first rule up to which there are too many names, or -1.
 func findManyNames(list []Rule) int {
-	names := map[string]struct{}{}
+	var names []string
 	for number, rule := range list {
-		for term := range rule.Args() {
-			if !term.Variable {
-				names[term.Text] = struct{}{}
-			}
-		}
+		names = AddNames(names, rule.Args())
 		if len(names) > api.MaxNames {
 			return number
 		}

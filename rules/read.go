@@ -1,6 +1,8 @@
 package rules
 
 import (
+	"slices"
+	"strings"
 	"unicode/utf8"
 
 	"ebb/api"
@@ -19,19 +21,22 @@ func Read(text string) ([]Rule, api.Errno, int) {
 	return list, api.OK, 0
 }
 
-func parse(text string) ([]Rule, api.Errno, int) {
-	length := utf8.RuneCountInString(text)
-	if length > api.MaxText {
-		return nil, api.ErrLong, 0
-	}
+// ReadAtom reads a text that is one atom and nothing else, or tells that it is none.
+func ReadAtom(text string) (Atom, bool) {
 	var p parser
-	for token := range tokens.All(text) {
-		if err := p.take(token); err != api.OK {
-			return nil, err, token.Place
-		}
+	if err, _ := p.takeAll(text); err != api.OK || p.state != headEnd || len(p.rules) > 0 {
+		return Atom{}, false
+	}
+	return p.atoms[0], true
+}
+
+func parse(text string) ([]Rule, api.Errno, int) {
+	var p parser
+	if err, place := p.takeAll(text); err != api.OK {
+		return nil, err, place
 	}
 	if p.state != ruleStart {
-		return nil, api.ErrText, length
+		return nil, api.ErrText, utf8.RuneCountInString(text)
 	}
 	return p.rules, api.OK, 0
 }
@@ -53,7 +58,22 @@ const (
 type parser struct {
 	state state
 	rules []Rule
-	atoms []Atom // of the rule that is being read, its head first
+	// Of the rule that is being read: its atoms, the head first, and its variables, in the order of their numbers.
+	atoms     []Atom
+	variables []string
+}
+
+// takeAll takes the tokens of a text up to the first error, and tells that with its place.
+func (p *parser) takeAll(text string) (api.Errno, int) {
+	if utf8.RuneCountInString(text) > api.MaxText {
+		return api.ErrLong, 0
+	}
+	for token := range tokens.All(text) {
+		if err := p.take(token); err != api.OK {
+			return err, token.Place
+		}
+	}
+	return api.OK, 0
 }
 
 func (p *parser) take(token tokens.Token) api.Errno {
@@ -122,12 +142,25 @@ func (p *parser) add(token tokens.Token) {
 func (p *parser) addWord(token tokens.Token) {
 	if p.state == argument {
 		atom := p.lastAtom()
-		atom.Args = append(atom.Args, Term{Text: token.Text, Variable: token.Kind == tokens.Variable})
+		atom.Args = append(atom.Args, p.term(token))
 		p.state = argumentEnd
 		return
 	}
-	p.atoms = append(p.atoms, Atom{Relation: token.Text})
+	p.atoms = append(p.atoms, Atom{Relation: strings.Clone(token.Text)})
 	p.state = open
+}
+
+// term makes an argument of a word; a name is copied, for what is read may be kept and the text may not.
+func (p *parser) term(token tokens.Token) Term {
+	if token.Kind == tokens.Name {
+		return Term{Name: strings.Clone(token.Text)}
+	}
+	number := slices.Index(p.variables, token.Text)
+	if number < 0 {
+		number = len(p.variables)
+		p.variables = append(p.variables, token.Text)
+	}
+	return Term{Number: number}
 }
 
 func (p *parser) addComma() {
@@ -148,7 +181,7 @@ func (p *parser) endAtom() {
 
 func (p *parser) endRule() {
 	p.rules = append(p.rules, Rule{Head: p.atoms[0], Body: p.atoms[1:]})
-	p.atoms = nil
+	p.atoms, p.variables = nil, nil
 	p.state = ruleStart
 }
 

@@ -2,19 +2,25 @@ package rules
 
 import (
 	"reflect"
+	"slices"
+	"strings"
 	"testing"
 
 	"ebb/api"
 )
 
 func TestReadBuildsRules(t *testing.T) {
-	got, err, at := Read("p(X, a) :- q(X), r(a,X).\nq(b).")
+	got, err, at := Read("p(X, a) :- q(X), r(Y,X).\ns(Y,Y) :- q(Y).\nq(b).")
 	want := []Rule{
 		{
-			Head: Atom{"p", []Term{{"X", true}, {"a", false}}},
-			Body: []Atom{{"q", []Term{{"X", true}}}, {"r", []Term{{"a", false}, {"X", true}}}},
+			Head: Atom{"p", []Term{{Number: 0}, {Name: "a"}}},
+			Body: []Atom{{"q", []Term{{Number: 0}}}, {"r", []Term{{Number: 1}, {Number: 0}}}},
 		},
-		{Head: Atom{"q", []Term{{"b", false}}}, Body: []Atom{}},
+		{
+			Head: Atom{"s", []Term{{Number: 0}, {Number: 0}}},
+			Body: []Atom{{"q", []Term{{Number: 0}}}},
+		},
+		{Head: Atom{"q", []Term{{Name: "b"}}}, Body: []Atom{}},
 	}
 	if err != api.OK || at != 0 || !reflect.DeepEqual(got, want) {
 		t.Errorf("Read = %v, %d, %d, want %v", got, err, at, want)
@@ -46,8 +52,8 @@ func TestAtomsAndArgsMayBeLeftEarly(t *testing.T) {
 		seen := 0
 		for term := range list[0].Args() {
 			if seen++; seen > stop {
-				if term.Text != want {
-					t.Errorf("argument %d is %q, want %q", stop, term.Text, want)
+				if term.Name != want {
+					t.Errorf("argument %d is %q, want %q", stop, term.Name, want)
 				}
 				break
 			}
@@ -63,5 +69,54 @@ func TestWriteKeepsWhatItIsGiven(t *testing.T) {
 	}
 	if second := Write(list); second != first {
 		t.Errorf("Write once more = %q, want %q", second, first)
+	}
+}
+
+func TestReadAtom(t *testing.T) {
+	for text, want := range map[string]Atom{
+		"p(a)":                {"p", []Term{{Name: "a"}}},
+		" ω ( X ,\tb )\n":     {"ω", []Term{{Number: 0}, {Name: "b"}}},
+		"p(X,Y)":              {"p", []Term{{Number: 0}, {Number: 1}}},
+		"abcdefgh(Ω234,Ω234)": {"abcdefgh", []Term{{Number: 0}, {Number: 0}}},
+	} {
+		if got, ok := ReadAtom(text); !ok || !reflect.DeepEqual(got, want) {
+			t.Errorf("ReadAtom(%q) = %v, %t, want %v", text, got, ok, want)
+		}
+	}
+	for _, text := range []string{"", "p", "p(", "p(a", "p(a).", "p(a):-", "p(a):-q(a)", "p(a). q(a)", "p(a)q(a)", "p(a),q(a)", "X(a)", "p(a,b,c)", "p(abcdefghi)", "p(1)", "p(a)\xff", strings.Repeat(" ", 297) + "p(a)"} {
+		if got, ok := ReadAtom(text); ok || !reflect.DeepEqual(got, Atom{}) {
+			t.Errorf("ReadAtom(%q) = %v, %t", text, got, ok)
+		}
+	}
+}
+
+func TestIsGround(t *testing.T) {
+	for text, want := range map[string]bool{"p(a)": true, "p(X)": false, "p(a,b)": true, "p(a,X)": false, "p(X,a)": false, "p(X,X)": false} {
+		if atom, _ := ReadAtom(text); atom.IsGround() != want {
+			t.Errorf("IsGround of %s is %t", text, !want)
+		}
+	}
+}
+
+func TestArityAndIsDerived(t *testing.T) {
+	list, _, _ := Read("p(X):-e(X,Y),q(Y,a). q(b,c). r(X):-r(X).")
+	for relation, want := range map[string]struct {
+		arity   int
+		derived bool
+	}{"p": {1, true}, "e": {2, false}, "q": {2, true}, "r": {1, true}, "a": {0, false}, "": {0, false}} {
+		if arity, derived := Arity(list, relation), IsDerived(list, relation); arity != want.arity || derived != want.derived {
+			t.Errorf("%q: %d, %t, want %v", relation, arity, derived, want)
+		}
+	}
+}
+
+func TestAddNames(t *testing.T) {
+	list, _, _ := Read("p(X,a):-e(X,b),f(a). q(c,b).")
+	var names []string
+	for _, rule := range list {
+		names = AddNames(names, rule.Args())
+	}
+	if want := []string{"a", "b", "c"}; !slices.Equal(names, want) {
+		t.Errorf("AddNames = %q, want %q", names, want)
 	}
 }

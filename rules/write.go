@@ -1,7 +1,6 @@
 package rules
 
 import (
-	"slices"
 	"strconv"
 	"strings"
 )
@@ -16,47 +15,35 @@ func Write(list []Rule) string {
 }
 
 func writeRule(out *strings.Builder, rule Rule) {
-	variables := variablesOf(rule)
-	writeAtom(out, rule.Head, variables)
+	writeAtom(out, rule.Head)
 	for i, atom := range rule.Body {
 		if i == 0 {
 			out.WriteString(" :- ")
 		} else {
 			out.WriteString(", ")
 		}
-		writeAtom(out, atom, variables)
+		writeAtom(out, atom)
 	}
 	out.WriteString(".\n")
 }
 
-// variablesOf tells the variables in the order in which they first stand in a rule: a variable's index is its new number.
-func variablesOf(rule Rule) []string {
-	var variables []string
-	for term := range rule.Args() {
-		if term.Variable && !slices.Contains(variables, term.Text) {
-			variables = append(variables, term.Text)
-		}
-	}
-	return variables
-}
-
-func writeAtom(out *strings.Builder, atom Atom, variables []string) {
+func writeAtom(out *strings.Builder, atom Atom) {
 	out.WriteString(atom.Relation)
 	out.WriteByte('(')
 	for i, term := range atom.Args {
 		if i > 0 {
 			out.WriteByte(',')
 		}
-		writeTerm(out, term, variables)
+		writeTerm(out, term)
 	}
 	out.WriteByte(')')
 }
 
-func writeTerm(out *strings.Builder, term Term, variables []string) {
-	if !term.Variable {
-		out.WriteString(term.Text)
+func writeTerm(out *strings.Builder, term Term) {
+	if !term.IsVariable() {
+		out.WriteString(term.Name)
 		return
 	}
 	out.WriteByte('X')
-	out.WriteString(strconv.Itoa(slices.Index(variables, term.Text)))
+	out.WriteString(strconv.Itoa(term.Number))
 }

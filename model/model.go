@@ -1,0 +1,88 @@
+// Package model makes the least model of rules and facts, and goes through what it holds.
+package model
+
+import (
+	"iter"
+	"strings"
+
+	"ebb/api"
+	"ebb/rules"
+)
+
+// Thing is the arguments of a ground atom; where there is one alone, the second is empty.
+type Thing [api.MaxArgs]string
+
+// Ground is a ground atom.
+type Ground struct {
+	Relation string
+	Thing    Thing
+}
+
+// Of tells the ground atom that an atom without variables is.
+func Of(atom rules.Atom) Ground {
+	return names{}.ground(atom)
+}
+
+// Text writes the atom without blanks.
+func (g Ground) Text() string {
+	args := g.Thing[:]
+	if args[1] == "" {
+		args = args[:1]
+	}
+	return g.Relation + "(" + strings.Join(args, ",") + ")"
+}
+
+// Model is a set of ground atoms: the things of each relation.
+type Model map[string]map[Thing]struct{}
+
+// Has tells whether the atom is one of the set.
+func (m Model) Has(ground Ground) bool {
+	_, ok := m[ground.Relation][ground.Thing]
+	return ok
+}
+
+func (m Model) add(ground Ground) {
+	if m[ground.Relation] == nil {
+		m[ground.Relation] = map[Thing]struct{}{}
+	}
+	m[ground.Relation][ground.Thing] = struct{}{}
+}
+
+// Fits goes through all ground atoms of the model that come of an atom by putting names for its variables.
+func (m Model) Fits(atom rules.Atom) iter.Seq[Ground] {
+	return func(yield func(Ground) bool) {
+		for put := range m.extend(atom, names{}) {
+			if !yield(put.ground(atom)) {
+				return
+			}
+		}
+	}
+}
+
+// extend goes through all names for the variables of an atom with which the model has it; those that are put already stay.
+func (m Model) extend(atom rules.Atom, put names) iter.Seq[names] {
+	return func(yield func(names) bool) {
+		for thing := range m[atom.Relation] {
+			if all, ok := put.match(atom, thing); ok && !yield(all) {
+				return
+			}
+		}
+	}
+}
+
+// join goes through all names for the variables of atoms with which the model has all of them; those that are put already stay.
+func (m Model) join(atoms []rules.Atom, put names) iter.Seq[names] {
+	return func(yield func(names) bool) {
+		if len(atoms) == 0 {
+			yield(put)
+			return
+		}
+		for more := range m.extend(atoms[0], put) {
+			for all := range m.join(atoms[1:], more) {
+				if !yield(all) {
+					return
+				}
+			}
+		}
+	}
+}
