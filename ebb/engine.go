@@ -47,8 +47,8 @@ func isWithin(number, least, most int) bool {
 
 // Insert brings a fact with its time (P7).
 func (x *Engine) Insert(fact string, time int) api.Errno {
-	atom, ok := rules.ReadAtom(fact)
-	if !ok || !atom.IsGround() {
+	atom, ok := readGround(fact)
+	if !ok {
 		return api.ErrText
 	}
 	if rules.IsDerived(x.rules, atom.Relation) {
@@ -61,6 +61,12 @@ func (x *Engine) Insert(fact string, time int) api.Errno {
 		return api.ErrArg
 	}
 	return x.accept(atom, time)
+}
+
+// readGround reads a text that is one atom without variables.
+func readGround(text string) (rules.Atom, bool) {
+	atom, ok := rules.ReadAtom(text)
+	return atom, ok && atom.IsGround()
 }
 
 // checkRelation tells whether the rules have the atom's relation, with as many arguments.
@@ -92,9 +98,14 @@ func (x *Engine) accept(atom rules.Atom, time int) api.Errno {
 	return api.OK
 }
 
+// end tells the end of a fact of this time.
+func (x *Engine) end(time int) int {
+	return time + x.window
+}
+
 // isOver tells whether the watermark has come to the end of a fact of this time.
 func (x *Engine) isOver(time int) bool {
-	return time+x.window <= x.watermark
+	return x.end(time) <= x.watermark
 }
 
 // Tick moves the clock, and tells the watermark (P8).
@@ -112,10 +123,10 @@ func (x *Engine) Tick(clock int) (int, api.Errno) {
 func (x *Engine) move(mark int) {
 	x.watermark = mark
 	x.kept = slices.DeleteFunc(x.kept, func(d dated) bool { return x.isOver(d.time) })
-	var facts []model.Ground
+	var facts []model.Lasting
 	for _, d := range x.kept {
 		if d.time <= mark {
-			facts = append(facts, d.fact)
+			facts = append(facts, model.Lasting{Ground: d.fact, End: x.end(d.time)})
 		}
 	}
 	x.state = model.Least(x.rules, facts)
@@ -138,8 +149,17 @@ func (x *Engine) Ask(atom string) ([]string, api.Errno) {
 	return texts, api.OK
 }
 
-// Until tells until when something holds (P10).
-func (x *Engine) Until(fact string) (int, api.Errno) { return 0, api.OK }
+// Until tells until when something holds, if nothing more comes (P10).
+func (x *Engine) Until(fact string) (int, api.Errno) {
+	atom, ok := readGround(fact)
+	if !ok {
+		return 0, api.ErrText
+	}
+	if err := x.checkRelation(atom); err != api.OK {
+		return 0, err
+	}
+	return x.state.End(model.Of(atom)), api.OK
+}
 
 // Subscribe begins a feed (P11).
 func (x *Engine) Subscribe(relation string) (int, api.Errno) { return 0, api.OK }

@@ -1,6 +1,7 @@
 package ebb_test
 
 import (
+	"maps"
 	"math/rand"
 	"regexp"
 	"slices"
@@ -15,12 +16,13 @@ import (
 
 var oneAtomPattern = regexp.MustCompile(`^n\([nv](,[nv])?\)$`)
 
-// slowEngine is what P6 to P9 say, once more and in another way: it keeps all clocks and all facts for good, and tries every name for every variable.
+// slowEngine is what P6 to P10 say, once more and in another way: it keeps all clocks and all facts for good, and tries every name for every variable.
 type slowEngine struct {
 	rules            [][][]string // each a head and a body, of words
 	window, lateness int
 	accepted         []slowFact
 	ticks            []int
+	made             []slowFact // what the state is made of
 	state            map[string]bool
 }
 
@@ -191,8 +193,8 @@ func (s *slowEngine) Tick(clock int) (int, api.Errno) {
 	before := s.watermark()
 	s.ticks = append(s.ticks, clock)
 	if s.watermark() > before {
-		facts := slices.DeleteFunc(s.kept(), func(fact slowFact) bool { return fact.time > s.watermark() })
-		s.state = s.leastModel(facts)
+		s.made = slices.DeleteFunc(s.kept(), func(fact slowFact) bool { return fact.time > s.watermark() })
+		s.state = s.leastModel(s.made)
 	}
 	return s.watermark(), api.OK
 }
@@ -213,6 +215,27 @@ func (s *slowEngine) Ask(text string) ([]string, api.Errno) {
 	}
 	slices.Sort(texts)
 	return texts, api.OK
+}
+
+// Until tries one number after the other; none of the facts ends behind the watermark by more than the window.
+func (s *slowEngine) Until(text string) (int, api.Errno) {
+	words := s.read(text)
+	if words == nil || slices.ContainsFunc(words, largePattern.MatchString) {
+		return 0, api.ErrText
+	}
+	if err := s.relation(words, true); err != api.OK {
+		return 0, err
+	}
+	if !s.state[slowText(words)] {
+		return 0, api.OK
+	}
+	for end := s.watermark() + 1; end <= s.watermark()+s.window; end++ {
+		left := slices.DeleteFunc(slices.Clone(s.made), func(fact slowFact) bool { return fact.time+s.window <= end })
+		if !s.leastModel(left)[slowText(words)] {
+			return end, api.OK
+		}
+	}
+	return api.Never, api.OK
 }
 
 // madeEngine makes rules that New takes, mostly of relations that call each other.
@@ -260,10 +283,11 @@ func slowFactText(random *rand.Rand) string {
 	return text
 }
 
-func TestP6ToP9AgainstTheSlowEngine(t *testing.T) {
+func TestP6ToP10AgainstTheSlowEngine(t *testing.T) {
 	random := rand.New(rand.NewSource(2))
 	errors := map[api.Errno]int{}
 	told := 0
+	ends := map[int]int{}
 	for range 400 {
 		text, window, lateness := madeEngine(random)
 		x, err := ebb.New(text, window, lateness, 1+random.Intn(50))
@@ -280,8 +304,13 @@ func TestP6ToP9AgainstTheSlowEngine(t *testing.T) {
 				for range 4 {
 					told += checkAsk(t, x, s, slowAtom(random, "p", "q", "r", "s", "e", "f"))
 				}
+				checkUntil(t, x, s, slowAtom(random, "p", "q"))
 			case 2:
 				told += checkAsk(t, x, s, slowFactText(random))
+				if holding := slices.Sorted(maps.Keys(s.state)); len(holding) > 0 {
+					ends[left(checkUntil(t, x, s, pick(random, holding...)), s.watermark())]++
+				}
+				checkUntil(t, x, s, slowFactText(random))
 			default:
 				errors[checkInsert(t, x, s, slowFactText(random), clock-lateness-window+random.Intn(2*window+3))]++
 			}
@@ -298,7 +327,20 @@ func TestP6ToP9AgainstTheSlowEngine(t *testing.T) {
 	if told < 1000 {
 		t.Errorf("too few atoms are told: %d", told)
 	}
-	t.Log(errors, told)
+	for _, left := range []int{1, 2, 5, 9, api.Never} {
+		if ends[left] < 20 {
+			t.Errorf("too few of the ends are %d away: %v", left, ends)
+		}
+	}
+	t.Log(errors, told, ends)
+}
+
+// left tells how far away an end is.
+func left(end, watermark int) int {
+	if end == api.Never {
+		return end
+	}
+	return end - watermark
 }
 
 func checkTick(t *testing.T, x *ebb.Engine, s *slowEngine, clock int) {
@@ -316,6 +358,15 @@ func checkAsk(t *testing.T, x *ebb.Engine, s *slowEngine, atom string) int {
 		t.Errorf("Ask(%q) = %q, %d, want %q, %d", atom, texts, err, want, wantErr)
 	}
 	return len(texts)
+}
+
+func checkUntil(t *testing.T, x *ebb.Engine, s *slowEngine, fact string) int {
+	t.Helper()
+	end, err := x.Until(fact)
+	if want, wantErr := s.Until(fact); end != want || err != wantErr {
+		t.Errorf("Until(%q) = %d, %d, want %d, %d", fact, end, err, want, wantErr)
+	}
+	return end
 }
 
 func checkInsert(t *testing.T, x *ebb.Engine, s *slowEngine, fact string, time int) api.Errno {
@@ -344,7 +395,9 @@ func FuzzAtoms(f *testing.F) {
 			checkTick(t, x, s, clock)
 			for _, atom := range []string{text, "p(X)", "e(X,Y)", "f(X)"} {
 				checkAsk(t, x, s, atom)
+				checkUntil(t, x, s, atom)
 			}
+			checkUntil(t, x, s, "f(b)")
 		}
 	})
 }

@@ -1,34 +1,40 @@
 package model
 
 import (
+	"cmp"
 	"iter"
 	"slices"
 
+	"ebb/api"
 	"ebb/rules"
 )
 
-// Least makes the least model of rules and of facts (P8).
-func Least(list []rules.Rule, facts []Ground) Model {
+// Least makes the least model of rules and of facts (P8). Each of its atoms has the greatest end up to which it follows from facts that have not ended (P10).
+func Least(list []rules.Rule, facts []Lasting) Model {
 	m := Model{}
-	waiting := slices.AppendSeq(slices.Clone(facts), given(list))
+	// The last that waits always lasts longest, so what is first reached by it has its end, and no later way to it can have a greater one.
+	waiting := slices.SortedFunc(slices.Values(facts), func(a, b Lasting) int { return cmp.Compare(a.End, b.End) })
+	waiting = slices.AppendSeq(waiting, given(list))
 	for len(waiting) > 0 {
 		last := len(waiting) - 1
-		ground := waiting[last]
+		next := waiting[last]
 		waiting = waiting[:last]
-		if m.Has(ground) {
+		if m.Has(next.Ground) {
 			continue
 		}
-		m.add(ground)
-		waiting = slices.AppendSeq(waiting, m.follow(list, ground))
+		m.add(next)
+		for head := range m.follow(list, next.Ground) {
+			waiting = append(waiting, Lasting{Ground: head, End: next.End})
+		}
 	}
 	return m
 }
 
-// given goes through the heads of rules without a body: they hold whatever the facts are.
-func given(list []rules.Rule) iter.Seq[Ground] {
-	return func(yield func(Ground) bool) {
+// given goes through the heads of rules without a body: they hold whatever the facts are, and never end.
+func given(list []rules.Rule) iter.Seq[Lasting] {
+	return func(yield func(Lasting) bool) {
 		for _, rule := range list {
-			if len(rule.Body) == 0 && !yield(Of(rule.Head)) {
+			if len(rule.Body) == 0 && !yield(Lasting{Ground: Of(rule.Head), End: api.Never}) {
 				return
 			}
 		}

@@ -32,8 +32,14 @@ func (g Ground) Text() string {
 	return g.Relation + "(" + strings.Join(args, ",") + ")"
 }
 
-// Model is a set of ground atoms: the things of each relation.
-type Model map[string]map[Thing]struct{}
+// Lasting is a ground atom that holds until its end.
+type Lasting struct {
+	Ground Ground
+	End    int
+}
+
+// Model is a set of ground atoms: the things of each relation, and their ends.
+type Model map[string]map[Thing]int
 
 // Has tells whether the atom is one of the set.
 func (m Model) Has(ground Ground) bool {
@@ -41,11 +47,17 @@ func (m Model) Has(ground Ground) bool {
 	return ok
 }
 
-func (m Model) add(ground Ground) {
-	if m[ground.Relation] == nil {
-		m[ground.Relation] = map[Thing]struct{}{}
+// End tells until when the atom holds; 0, if it is not one of the set.
+func (m Model) End(ground Ground) int {
+	return m[ground.Relation][ground.Thing]
+}
+
+func (m Model) add(lasting Lasting) {
+	relation := lasting.Ground.Relation
+	if m[relation] == nil {
+		m[relation] = map[Thing]int{}
 	}
-	m[ground.Relation][ground.Thing] = struct{}{}
+	m[relation][lasting.Ground.Thing] = lasting.End
 }
 
 // Fits goes through all ground atoms of the model that come of an atom by putting names for its variables.

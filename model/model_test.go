@@ -26,11 +26,17 @@ func readAtom(t *testing.T, text string) rules.Atom {
 	return atom
 }
 
-func readFacts(t *testing.T, texts ...string) []Ground {
+func readGround(t *testing.T, text string) Ground {
 	t.Helper()
-	var facts []Ground
-	for _, text := range texts {
-		facts = append(facts, Of(readAtom(t, text)))
+	return Of(readAtom(t, text))
+}
+
+// readFacts gives the first fact the end 9, the second 8, and so on.
+func readFacts(t *testing.T, texts ...string) []Lasting {
+	t.Helper()
+	var facts []Lasting
+	for i, text := range texts {
+		facts = append(facts, Lasting{Ground: readGround(t, text), End: 9 - i})
 	}
 	return facts
 }
@@ -46,7 +52,7 @@ func textsOf(m Model, atom rules.Atom) []string {
 
 func TestTextOfGround(t *testing.T) {
 	for _, text := range []string{"p(a)", "p(a,b)", "ωω(ω,a1)"} {
-		if got := Of(readAtom(t, text)).Text(); got != text {
+		if got := readGround(t, text).Text(); got != text {
 			t.Errorf("Text = %q, want %q", got, text)
 		}
 	}
@@ -116,7 +122,7 @@ func TestFollowAndGivenMayBeLeftEarly(t *testing.T) {
 	m := Least(nil, facts)
 	for stop := 1; stop <= 4; stop++ {
 		told := 0
-		for head := range m.follow(list, facts[0]) {
+		for head := range m.follow(list, facts[0].Ground) {
 			if m.Has(head) {
 				t.Errorf("%s holds already", head.Text())
 			}
@@ -141,11 +147,11 @@ func TestLeast(t *testing.T) {
 		t.Errorf("q has %q", got)
 	}
 	for _, fact := range facts {
-		if !m.Has(fact) {
-			t.Errorf("the model lacks %s", fact.Text())
+		if !m.Has(fact.Ground) {
+			t.Errorf("the model lacks %s", fact.Ground.Text())
 		}
 	}
-	if m.Has(Of(readAtom(t, "q(b)"))) || m.Has(Of(readAtom(t, "z(a)"))) {
+	if m.Has(readGround(t, "q(b)")) || m.Has(readGround(t, "z(a)")) {
 		t.Error("the model has too much")
 	}
 }
@@ -153,10 +159,27 @@ func TestLeast(t *testing.T) {
 func TestLeastKeepsItsFacts(t *testing.T) {
 	facts := readFacts(t, "e(b)", "e(a)", "e(c)")
 	before := slices.Clone(facts)
-	spare := append(facts[:2:3], Ground{})[:2] // a spare place that Least must not write to
+	spare := append(facts[:2:3], Lasting{})[:2] // a spare place that Least must not write to
 	Least(readRules(t, "p(X):-e(X). q(z)."), spare)
-	if !slices.Equal(facts[:2], before[:2]) || facts[2] != (Ground{}) {
+	if !slices.Equal(facts[:2], before[:2]) || facts[2] != (Lasting{}) {
 		t.Errorf("the facts were changed: %v", facts)
+	}
+}
+
+// The end is that of the way that lasts longest, and a way lasts until the first of its facts ends.
+func TestEnds(t *testing.T) {
+	list := readRules(t, "p(X,Y):-e(X,Y). p(X,Z):-p(X,Y),p(Y,Z). s(a). q(X):-p(X,X),s(X). s(X):-f(X).")
+	facts := readFacts(t, "e(a,b)", "e(b,c)", "e(c,a)", "e(a,c)", "f(a)", "f(b)", "e(a,b)")
+	for range 2 {
+		m := Least(list, facts)
+		for text, want := range map[string]int{
+			"e(a,b)": 9, "e(b,c)": 8, "p(a,b)": 9, "p(a,c)": 8, "p(a,a)": 7, "p(c,b)": 7, "q(a)": 7, "s(a)": api.Never, "f(a)": 5, "s(b)": 4, "q(b)": 4, "q(c)": 0, "z(a)": 0, "f(c)": 0,
+		} {
+			if got := m.End(readGround(t, text)); got != want {
+				t.Errorf("End(%s) = %d, want %d", text, got, want)
+			}
+		}
+		slices.Reverse(facts)
 	}
 }
 
