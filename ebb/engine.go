@@ -4,6 +4,7 @@ import (
 	"slices"
 
 	"ebb/api"
+	"ebb/feeds"
 	"ebb/model"
 	"ebb/rules"
 )
@@ -13,10 +14,12 @@ type Engine struct {
 	rules     []rules.Rule
 	window    int
 	lateness  int
+	queue     int // how many records may wait in a feed's queue
 	watermark int
 	names     []string // that stand in the rules and in all facts that were ever accepted
 	kept      []dated
 	state     model.Model
+	feeds     []*feeds.Feed
 }
 
 // dated is a fact with its time.
@@ -34,7 +37,7 @@ func New(text string, window int, lateness int, queue int) (*Engine, api.Errno) 
 	if !isWithin(window, 1, api.MaxSpan) || !isWithin(lateness, 0, api.MaxSpan) || !isWithin(queue, 1, api.MaxQueue) {
 		return nil, api.ErrArg
 	}
-	x := &Engine{rules: list, window: window, lateness: lateness, state: model.Least(list, nil)}
+	x := &Engine{rules: list, window: window, lateness: lateness, queue: queue, state: model.Least(list, nil)}
 	for _, rule := range list {
 		x.names = rules.AddNames(x.names, rule.Args())
 	}
@@ -119,7 +122,7 @@ func (x *Engine) Tick(clock int) (int, api.Errno) {
 	return x.watermark, api.OK
 }
 
-// move brings the watermark forward, and with it the facts that are kept and the state.
+// move brings the watermark forward, and with it the facts that are kept, the state and the feeds.
 func (x *Engine) move(mark int) {
 	x.watermark = mark
 	x.kept = slices.DeleteFunc(x.kept, func(d dated) bool { return x.isOver(d.time) })
@@ -129,7 +132,11 @@ func (x *Engine) move(mark int) {
 			facts = append(facts, model.Lasting{Ground: d.fact, End: x.end(d.time)})
 		}
 	}
+	before := x.state
 	x.state = model.Least(x.rules, facts)
+	for _, f := range x.feeds {
+		f.Move(before, x.state, mark, x.queue)
+	}
 }
 
 // Ask tells all that holds of a form (P9).
@@ -141,12 +148,7 @@ func (x *Engine) Ask(atom string) ([]string, api.Errno) {
 	if err := x.checkRelation(pattern); err != api.OK {
 		return nil, err
 	}
-	var texts []string
-	for ground := range x.state.Fits(pattern) {
-		texts = append(texts, ground.Text())
-	}
-	slices.Sort(texts)
-	return texts, api.OK
+	return model.Texts(x.state.Fits(pattern)), api.OK
 }
 
 // Until tells until when something holds, if nothing more comes (P10).
@@ -162,7 +164,27 @@ func (x *Engine) Until(fact string) (int, api.Errno) {
 }
 
 // Subscribe begins a feed (P11).
-func (x *Engine) Subscribe(relation string) (int, api.Errno) { return 0, api.OK }
+func (x *Engine) Subscribe(relation string) (int, api.Errno) {
+	name, ok := rules.ReadName(relation)
+	if !ok {
+		return 0, api.ErrText
+	}
+	arity := rules.Arity(x.rules, name)
+	if arity == 0 {
+		return 0, api.ErrName
+	}
+	number := len(x.feeds)
+	if number == api.MaxSubs {
+		return 0, api.ErrFull
+	}
+	x.feeds = append(x.feeds, feeds.New(rules.Form(name, arity)))
+	return number, api.OK
+}
 
 // Poll tells a feed's next record (P11).
-func (x *Engine) Poll(feed int) (api.Record, api.Errno) { return api.Record{}, api.OK }
+func (x *Engine) Poll(feed int) (api.Record, api.Errno) {
+	if !isWithin(feed, 0, len(x.feeds)-1) {
+		return api.Record{}, api.ErrArg
+	}
+	return x.feeds[feed].Poll(x.state, x.watermark), api.OK
+}

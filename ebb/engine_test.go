@@ -20,9 +20,14 @@ type run struct {
 
 func begin(t *testing.T, text string, window, lateness int) run {
 	t.Helper()
-	x, err := ebb.New(text, window, lateness, 20)
+	return beginQueue(t, text, window, lateness, 20)
+}
+
+func beginQueue(t *testing.T, text string, window, lateness, queue int) run {
+	t.Helper()
+	x, err := ebb.New(text, window, lateness, queue)
 	if x == nil || err != api.OK {
-		t.Fatalf("New(%q, %d, %d, 20): %d", text, window, lateness, err)
+		t.Fatalf("New(%q, %d, %d, %d): %d", text, window, lateness, queue, err)
 	}
 	return run{t, x}
 }

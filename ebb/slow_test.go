@@ -16,7 +16,7 @@ import (
 
 var oneAtomPattern = regexp.MustCompile(`^n\([nv](,[nv])?\)$`)
 
-// slowEngine is what P6 to P10 say, once more and in another way: it keeps all clocks and all facts for good, and tries every name for every variable.
+// slowEngine is what P6 to P11 say, once more and in another way: it keeps all clocks, all facts and all that feeds went through for good, and tries every name for every variable.
 type slowEngine struct {
 	rules            [][][]string // each a head and a body, of words
 	window, lateness int
@@ -24,6 +24,8 @@ type slowEngine struct {
 	ticks            []int
 	made             []slowFact // what the state is made of
 	state            map[string]bool
+	queue            int // set where there are feeds
+	feeds            []*slowFeed
 }
 
 type slowFact struct {
@@ -195,6 +197,7 @@ func (s *slowEngine) Tick(clock int) (int, api.Errno) {
 	if s.watermark() > before {
 		s.made = slices.DeleteFunc(s.kept(), func(fact slowFact) bool { return fact.time > s.watermark() })
 		s.state = s.leastModel(s.made)
+		s.log()
 	}
 	return s.watermark(), api.OK
 }
@@ -379,16 +382,23 @@ func checkInsert(t *testing.T, x *ebb.Engine, s *slowEngine, fact string, time i
 }
 
 func FuzzAtoms(f *testing.F) {
-	for _, text := range []string{"", "e(a,b)", " f(X) ", "p(a).", "e(a,X)", "e(\xce,a)", "f(a)f(a)", "p(a). f(a)", "e(a,b,c)", "z(a)", strings.Repeat(" ", 297) + "f(a)"} {
+	for _, text := range []string{"", "e(a,b)", " f(X) ", "p(a).", "e(a,X)", "e(\xce,a)", "f(a)f(a)", "p(a). f(a)", "e(a,b,c)", "z(a)", strings.Repeat(" ", 297) + "f(a)", "e", "f2", "f ", "F", "ωωωωωωωωω"} {
 		f.Add(text, 5, 7)
 	}
 	f.Fuzz(func(t *testing.T, text string, time, clock int) {
 		rules := "p(X):-e(X,Y),f(Y). p(a). f2(X):-p(X)."
-		x, err := ebb.New(rules, 10, 2, 1)
+		x, err := ebb.New(rules, 10, 2, 2)
 		if err != api.OK {
 			t.Fatal(err)
 		}
 		s := newSlow(rules, 10, 2)
+		s.queue = 2
+		checkSubscribe(t, x, s, text)
+		checkSubscribe(t, x, s, "f")
+		for feed := range 3 {
+			checkPoll(t, x, s, feed)
+			checkPoll(t, x, s, time+feed)
+		}
 		for range 2 {
 			checkInsert(t, x, s, "f(b)", 3)
 			checkInsert(t, x, s, text, time)
@@ -398,6 +408,9 @@ func FuzzAtoms(f *testing.F) {
 				checkUntil(t, x, s, atom)
 			}
 			checkUntil(t, x, s, "f(b)")
+			for poll := range 8 {
+				checkPoll(t, x, s, poll/4)
+			}
 		}
 	})
 }

@@ -3,6 +3,7 @@ package model
 
 import (
 	"iter"
+	"slices"
 	"strings"
 
 	"ebb/api"
@@ -30,6 +31,16 @@ func (g Ground) Text() string {
 		args = args[:1]
 	}
 	return g.Relation + "(" + strings.Join(args, ",") + ")"
+}
+
+// Texts tells the texts of ground atoms, in order.
+func Texts(grounds iter.Seq[Ground]) []string {
+	var texts []string
+	for ground := range grounds {
+		texts = append(texts, ground.Text())
+	}
+	slices.Sort(texts)
+	return texts
 }
 
 // Lasting is a ground atom that holds until its end.
@@ -65,6 +76,17 @@ func (m Model) Fits(atom rules.Atom) iter.Seq[Ground] {
 	return func(yield func(Ground) bool) {
 		for put := range m.extend(atom, names{}) {
 			if !yield(put.ground(atom)) {
+				return
+			}
+		}
+	}
+}
+
+// Beyond goes through all that Fits does and that another model has not.
+func (m Model) Beyond(other Model, atom rules.Atom) iter.Seq[Ground] {
+	return func(yield func(Ground) bool) {
+		for ground := range m.Fits(atom) {
+			if !other.Has(ground) && !yield(ground) {
 				return
 			}
 		}

@@ -42,12 +42,7 @@ func readFacts(t *testing.T, texts ...string) []Lasting {
 }
 
 func textsOf(m Model, atom rules.Atom) []string {
-	var texts []string
-	for ground := range m.Fits(atom) {
-		texts = append(texts, ground.Text())
-	}
-	slices.Sort(texts)
-	return texts
+	return Texts(m.Fits(atom))
 }
 
 func TestTextOfGround(t *testing.T) {
@@ -55,6 +50,20 @@ func TestTextOfGround(t *testing.T) {
 		if got := readGround(t, text).Text(); got != text {
 			t.Errorf("Text = %q, want %q", got, text)
 		}
+	}
+}
+
+func TestTexts(t *testing.T) {
+	var grounds []Ground
+	for _, text := range []string{"p(ω)", "p(b,a)", "p(aB)", "p(a,b)", "e(z)", "p(a1)", "p(a)"} {
+		grounds = append(grounds, readGround(t, text))
+	}
+	want := []string{"e(z)", "p(a)", "p(a,b)", "p(a1)", "p(aB)", "p(b,a)", "p(ω)"}
+	for range 2 {
+		if got := Texts(slices.Values(grounds)); !slices.Equal(got, want) {
+			t.Errorf("Texts = %q, want %q", got, want)
+		}
+		slices.Reverse(grounds)
 	}
 }
 
@@ -90,6 +99,34 @@ func TestFitsMayBeLeftEarly(t *testing.T) {
 	}
 	if got := len(slices.Collect(all)); got != 4 {
 		t.Errorf("gone through once more: %d, want 4", got)
+	}
+}
+
+func TestBeyond(t *testing.T) {
+	first := Least(nil, readFacts(t, "e(a,b)", "e(b,a)", "e(a,a)", "f(a)"))
+	second := Least(nil, readFacts(t, "e(a,a)", "e(a,c)", "e(b,b)", "f(a)", "g(a)"))
+	for _, c := range []struct {
+		m, other Model
+		atom     string
+		want     []string
+	}{
+		{first, second, "e(X,Y)", []string{"e(a,b)", "e(b,a)"}}, {second, first, "e(X,Y)", []string{"e(a,c)", "e(b,b)"}}, {second, first, "e(X,X)", []string{"e(b,b)"}}, {first, second, "f(X)", nil}, {first, second, "g(X)", nil}, {second, first, "g(X)", []string{"g(a)"}},
+		{first, first, "e(X,Y)", nil}, {first, nil, "f(X)", []string{"f(a)"}}, {nil, first, "f(X)", nil}, {nil, nil, "f(X)", nil},
+	} {
+		if got := Texts(c.m.Beyond(c.other, readAtom(t, c.atom))); !slices.Equal(got, c.want) {
+			t.Errorf("Beyond(%s) = %q, want %q", c.atom, got, c.want)
+		}
+	}
+	for stop := 1; stop <= 2; stop++ {
+		told := 0
+		for range first.Beyond(second, readAtom(t, "e(X,Y)")) {
+			if told++; told == stop {
+				break
+			}
+		}
+		if told != stop {
+			t.Errorf("left at %d, told %d", stop, told)
+		}
 	}
 }
 

@@ -30,6 +30,19 @@ func ReadAtom(text string) (Atom, bool) {
 	return p.atoms[0], true
 }
 
+// ReadName reads a text that is one name and nothing else, no blank either, or tells that it is none. The name is copied, for it may be kept and the text may not.
+func ReadName(text string) (string, bool) {
+	if utf8.RuneCountInString(text) > api.MaxWord {
+		return "", false
+	}
+	for token := range tokens.All(text) {
+		if token.Kind == tokens.Name && token.Text == text {
+			return strings.Clone(text), true
+		}
+	}
+	return "", false
+}
+
 func parse(text string) ([]Rule, api.Errno, int) {
 	var p parser
 	if err, place := p.takeAll(text); err != api.OK {

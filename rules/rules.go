@@ -28,6 +28,15 @@ func (a Atom) IsGround() bool {
 	return !slices.ContainsFunc(a.Args, Term.IsVariable)
 }
 
+// Form makes the atom that all of a relation with so many arguments come of: each argument is a variable of its own.
+func Form(relation string, arity int) Atom {
+	form := Atom{Relation: relation}
+	for number := range arity {
+		form.Args = append(form.Args, Term{Number: number})
+	}
+	return form
+}
+
 // Rule says that its head follows from all of its body.
 type Rule struct {
 	Head Atom

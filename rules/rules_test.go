@@ -90,6 +90,28 @@ func TestReadAtom(t *testing.T) {
 	}
 }
 
+func TestReadName(t *testing.T) {
+	for _, text := range []string{"p", "path", "ω", "a1", "aB", "pΩ9", "abcdefgh", "ξξξξξξξξ"} {
+		if got, ok := ReadName(text); !ok || got != text {
+			t.Errorf("ReadName(%q) = %q, %t", text, got, ok)
+		}
+	}
+	for _, text := range []string{"", " ", "P", "Ω", "1", "1p", " p", "p ", "\tp", "p\n", "p p", "p(", "p.", "p,p", ":-", "p:-", "p-", "é", "pé", "\xce", "p\xff", "p\x00", "abcdefghi", "ξξξξξξξξξ", "p       q", "\u03a2", "\u03b0", "\u03ca"} {
+		if got, ok := ReadName(text); ok || got != "" {
+			t.Errorf("ReadName(%q) = %q, %t", text, got, ok)
+		}
+	}
+}
+
+func TestForm(t *testing.T) {
+	for text, arity := range map[string]int{"p(X)": 1, "ω(X,Y)": 2} {
+		want, _ := ReadAtom(text)
+		if got := Form(want.Relation, arity); !reflect.DeepEqual(got, want) {
+			t.Errorf("Form(%q, %d) = %v, want %v", want.Relation, arity, got, want)
+		}
+	}
+}
+
 func TestIsGround(t *testing.T) {
 	for text, want := range map[string]bool{"p(a)": true, "p(X)": false, "p(a,b)": true, "p(a,X)": false, "p(X,a)": false, "p(X,X)": false} {
 		if atom, _ := ReadAtom(text); atom.IsGround() != want {
